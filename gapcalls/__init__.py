@@ -1,0 +1,1 @@
+"""Gapcalls: who called whom, told from late and gappy rows."""
