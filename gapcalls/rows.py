@@ -33,10 +33,14 @@ def is_house(thing):
     return all(sign in LETTERS for sign in thing)
 
 
+def is_rising(things):
+    return all(things[at] < things[at + 1] for at in range(len(things) - 1))
+
+
 def are_rising_houses(thing):
     if not isinstance(thing, tuple) or not all(is_house(house) for house in thing):
         return False
-    return all(thing[at] < thing[at + 1] for at in range(len(thing) - 1))
+    return is_rising(thing)
 
 
 def is_town(thing):
