@@ -1,6 +1,6 @@
 """What may have led to what, each ask and each job by itself (point 10 of the document)."""
 
-from gapcalls.gaps import Gaps
+from gapcalls.gaps import gaps_of
 
 
 def is_not_above(one, other):
@@ -47,14 +47,14 @@ def can_come_of_more(gaps, job):
 
 def may_lead(town, rows, ask, job):
     """Whether by itself the ask may have led to the job; of an ask and a job that there were."""
-    return can_lead(Gaps(town, rows), ask, job)
+    return can_lead(gaps_of(town, rows), ask, job)
 
 
 def more_jobs(town, rows, ask):
     """Whether the ask may have led to more jobs of an open house; of an ask that there was."""
-    return can_lead_to_more(Gaps(town, rows), ask)
+    return can_lead_to_more(gaps_of(town, rows), ask)
 
 
 def more_asks(town, rows, job):
     """Whether the job may have come of more asks of an open house; of a job that there was."""
-    return can_come_of_more(Gaps(town, rows), job)
+    return can_come_of_more(gaps_of(town, rows), job)

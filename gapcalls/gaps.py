@@ -4,10 +4,9 @@ from gapcalls.clash import need_book
 
 
 class Gaps:
-    """What a book tells of each ask and each job by itself, read off its rows once."""
+    """What a book tells of each ask and each job by itself, read off its rows once; the rows must be a book's."""
 
     def __init__(self, town, rows):
-        need_book(town, rows)
         self.town = town
         self.ask_rows = rows_by_number(rows, "ask")
         self.job_rows = rows_by_number(rows, "job")
@@ -17,6 +16,12 @@ class Gaps:
         self.ask_spans = {ask: span_of_ask(self, ask) for ask in self.asks if ask not in self.ask_rows}
         self.job_spans = {job: span_of_job(self, job) for job in self.jobs if job not in self.job_rows}
         self.more_times = {house: more_of(self, house) for house in town[0] if house not in self.all_rows}
+
+
+def gaps_of(town, rows):
+    """The gaps of a book; of other lists NoRow, then Clash is raised."""
+    need_book(town, rows)
+    return Gaps(town, rows)
 
 
 def rows_by_number(rows, word):
@@ -87,39 +92,39 @@ def more_of(gaps, house):
 
 def known_asks(town, rows):
     """The asks that rows tell of, rising."""
-    return sorted(Gaps(town, rows).ask_rows)
+    return sorted(gaps_of(town, rows).ask_rows)
 
 
 def known_jobs(town, rows):
     """The jobs that rows tell of, rising."""
-    return sorted(Gaps(town, rows).job_rows)
+    return sorted(gaps_of(town, rows).job_rows)
 
 
 def lost_asks(town, rows):
     """The asks that there were and no row tells of, rising."""
-    return sorted(Gaps(town, rows).ask_spans)
+    return sorted(gaps_of(town, rows).ask_spans)
 
 
 def lost_jobs(town, rows):
     """The jobs that there were and no row tells of, rising."""
-    return sorted(Gaps(town, rows).job_spans)
+    return sorted(gaps_of(town, rows).job_spans)
 
 
 def open_houses(town, rows):
     """The houses without an all row, rising."""
-    return sorted(Gaps(town, rows).more_times)
+    return sorted(gaps_of(town, rows).more_times)
 
 
 def ask_span(town, rows, ask):
     """(low, high) of a lost ask: from when to when it went out, None where nothing tells."""
-    return span_of_ask(Gaps(town, rows), ask)
+    return span_of_ask(gaps_of(town, rows), ask)
 
 
 def job_span(town, rows, job):
     """(low, high, last) of a lost job: from when to when it began, and behind what it ended."""
-    return span_of_job(Gaps(town, rows), job)
+    return span_of_job(gaps_of(town, rows), job)
 
 
 def more_from(town, rows, house):
     """From when on more asks of an open house went out, and more jobs of it began."""
-    return more_of(Gaps(town, rows), house)
+    return more_of(gaps_of(town, rows), house)

@@ -1,9 +1,10 @@
-"""The words of points 8 to 12 once more, written as plainly as they stand and without any thought of speed.
+"""The words of points 8 to 18 once more, written as plainly as they stand and without any thought of speed.
 
 The tests hold what the package tells against this. Whole tellings are found here by going through all of them.
 """
 
 import itertools
+import random
 
 from gapcalls.clash import do_clash
 
@@ -100,16 +101,37 @@ class Reference:
                 and all(ask in asks for ask in self.asks if self.needs_job(ask))
                 and all(job in jobs for job in self.jobs if self.needs_ask(job)))
 
-    def is_short(self, side, some):
+    def is_short(self, side, some, barred=None, put=None):
+        """Whether some are short; were a pair barred; or, were one put, of the others."""
+        asks = [ask for ask in self.asks if put is None or ask != put[0]]
+        jobs = [job for job in self.jobs if put is None or job != put[1]]
         if some != sorted(set(some)):
             return False
+
+        def may(ask, job):
+            return (ask, job) != barred and self.may_lead(ask, job)
+
         if side == "asks":
-            if not all(ask in self.asks and self.needs_job(ask) for ask in some):
+            if not all(ask in asks and self.needs_job(ask) for ask in some):
                 return False
-            return len([job for job in self.jobs if any(self.may_lead(ask, job) for ask in some)]) < len(some)
-        if not all(job in self.jobs and self.needs_ask(job) for job in some):
+            return len([job for job in jobs if any(may(ask, job) for ask in some)]) < len(some)
+        if not all(job in jobs and self.needs_ask(job) for job in some):
             return False
-        return len([ask for ask in self.asks if any(self.may_lead(ask, job) for job in some)]) < len(some)
+        return len([ask for ask in asks if any(may(ask, job) for job in some)]) < len(some)
+
+    def is_standing(self, ask, job, told):
+        word, one, other = told
+        pair = (ask, job)
+        if word == "may":
+            return (isinstance(one, list) and isinstance(other, list) and self.is_whole(one) and self.is_whole(other)
+                    and pair in one and pair not in other)
+        if word == "never" and (one, other) == (None, None):
+            return not self.may_lead(ask, job)
+        if word not in ("must", "never") or one not in ("asks", "jobs") or not isinstance(other, list):
+            return False
+        if word == "must":
+            return self.is_short(one, other, barred=pair)
+        return self.is_short(one, other, put=pair)
 
     def all_whole(self, least=0):
         """Every whole telling, each once, by going through all pairings; for small books alone."""
@@ -128,11 +150,75 @@ class Reference:
     def whole_tellings(self):
         return [pairs for pairs in self.all_whole() if self.is_whole(pairs)]
 
+    def tellings(self):
+        """All tellings, sorted; for small books alone."""
+        told = {tuple(pair for pair in pairs if self.is_known(pair)) for pairs in self.whole_tellings()}
+        return [list(pairs) for pairs in sorted(told)]
+
+    def is_known(self, pair):
+        return pair[0] in self.known_asks and pair[1] in self.known_jobs
+
+    def known_chances(self):
+        return [(ask, job) for ask in self.known_asks for job in self.known_jobs]
+
     def all_short(self):
         """Every list that is short, with its side; for small books alone."""
         return [(side, list(some)) for side, there in (("asks", self.asks), ("jobs", self.jobs))
                 for count in range(len(there) + 1) for some in itertools.combinations(there, count)
                 if self.is_short(side, list(some))]
+
+
+def answer(telling, job):
+    return next((ask for ask, other in telling if other == job), None)
+
+
+def answers(tellings, job):
+    """The answers that some of the tellings give, the asks rising, None behind them."""
+    told = {answer(telling, job) for telling in tellings}
+    return sorted(told - {None}) + ([None] if None in told else [])
+
+
+def giving(tellings, job, wanted):
+    return [telling for telling in tellings if answer(telling, job) == wanted]
+
+
+def is_plan_for(tellings, known_jobs, plan):
+    if plan[0] == "sure" and len(plan) == 2:
+        return tellings == [plan[1]]
+    if plan[0] != "who" or len(plan) != 3:
+        return False
+    _, job, rows = plan
+    return (job in known_jobs and [one for one, _ in rows] == answers(tellings, job)
+            and all(is_plan_for(giving(tellings, job, one), known_jobs, inner) for one, inner in rows))
+
+
+def needs(plan):
+    return 0 if plan[0] == "sure" else 1 + max(needs(inner) for _, inner in plan[2])
+
+
+def least_need(tellings, known_jobs):
+    """How many questions the best plan needs, by going through all plans; for few tellings alone."""
+    if len(tellings) == 1:
+        return 0
+    return 1 + min(max(least_need(giving(tellings, job, one), known_jobs) for one in answers(tellings, job))
+                   for job in known_jobs if len(answers(tellings, job)) > 1)
+
+
+def are_bars_of(tellings, known_jobs, number, bars):
+    def stands(some, least):
+        return any(other == some and many >= least for other, many in bars)
+
+    def is_shown(some, need):
+        if need > 0 and len(some) < 2:
+            return False
+        those = [tellings[at] for at in some]
+        return need <= 1 or all(
+            any(stands(tuple(at for at in some if answer(tellings[at], job) == one), need - 1)
+                for one in answers(those, job)) for job in known_jobs)
+
+    return (all(some and list(some) == sorted(set(some)) and 0 <= some[0] and some[-1] < len(tellings)
+                for some, _ in bars)
+            and stands(tuple(range(len(tellings))), number) and all(is_shown(some, need) for some, need in bars))
 
 
 def some_row(chance, houses, most_number, most_time):
@@ -159,7 +245,7 @@ def some_book(chance, tries, most_houses=3, most_number=2, most_time=9):
     return (houses, gates), rows
 
 
-def some_history(chance, houses, gates, starts, deep):
+def some_history(chance, houses, gates, starts, deep, most_time=100):
     """What really was: jobs (house, begin, end, of which ask they came) and asks (in which job, out, back)."""
     jobs, asks = [], []
 
@@ -174,8 +260,8 @@ def some_history(chance, houses, gates, starts, deep):
                 do_job(chance.choice(houses), inner[0], inner[1], len(asks) - 1, left - 1)
 
     for _ in range(starts):
-        begin = chance.randint(0, 100)
-        do_job(chance.choice(gates), begin, begin + chance.randint(0, 100), None, deep)
+        begin = chance.randint(0, most_time)
+        do_job(chance.choice(gates), begin, begin + chance.randint(0, most_time), None, deep)
     return jobs, asks
 
 
@@ -224,3 +310,35 @@ def some_true_book(chance):
     reference = Reference((houses, gates), rows)
     there = [(ask, job) for ask, job in pairs if ask in reference.asks and job in reference.jobs]
     return (houses, gates), rows, there
+
+
+def some_tight_book(chance):
+    """A town and a small book of it: rows of a history of little time, so that much may have led to much."""
+    houses = tuple("abc"[:chance.randint(1, 3)])
+    gates = tuple(sorted(chance.sample(houses, chance.randint(1, len(houses)))))
+    while True:
+        jobs, asks = some_history(chance, houses, gates, chance.randint(1, 3), chance.randint(1, 3), most_time=12)
+        if len(jobs) > 6 or len(asks) < 2:
+            continue
+        rows, _ = rows_of_history(houses, jobs, asks)
+        kept = chance.choice((0.7, 0.9, 1))
+        rows = [row for row in rows if chance.random() < kept]
+        chance.shuffle(rows)
+        return (houses, gates if chance.random() < 0.8 else gates[1:]), rows
+
+
+def small_books(seed, count, most_tellings=None):
+    """Towns, small books of them, and their references; where it is asked, with a telling and at most so many."""
+    chance = random.Random(seed)
+    while count:
+        if chance.random() < 0.8:
+            town, rows = some_tight_book(chance)
+        else:
+            town, rows = some_book(chance, chance.randint(0, 12))
+        reference = Reference(town, rows)
+        if len(reference.asks) > 4 or len(reference.jobs) > 6:
+            continue
+        if most_tellings is not None and not 1 <= len(reference.tellings()) <= most_tellings:
+            continue
+        count -= 1
+        yield town, rows, reference

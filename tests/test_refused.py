@@ -4,9 +4,13 @@ import unittest
 
 from gapcalls.chances import may_lead, more_asks, more_jobs
 from gapcalls.clash import need_book
-from gapcalls.errors import Clash, NoRow
+from gapcalls.errors import Clash, NoAsk, NoJob, NoRow
 from gapcalls.gaps import (
     ask_span, job_span, known_asks, known_jobs, lost_asks, lost_jobs, more_from, open_houses)
+from gapcalls.questions import are_bars, is_plan, questions
+from gapcalls.standing import is_standing, may, must, standing
+from gapcalls.tellings import how_many, is_telling, tellings
+from gapcalls.trees import above, all_above, forest, stands_above, under
 from gapcalls.whole import is_short, is_whole, whole
 from samples import JOB, ODD_THINGS, TOWN, all_row, ask, job
 
@@ -18,6 +22,17 @@ TOLD = (
     (may_lead, (("a", 0), ("a", 0))), (more_jobs, (("a", 0),)), (more_asks, (("a", 0),)),
     (whole, ()), (is_whole, ([],)), (is_whole, ([(("a", 0), ("a", 0))],)),
     (is_short, ("asks", [])), (is_short, ("jobs", [])), (is_short, ("asks", [("a", 0)])),
+    (must, ()), (may, ()),
+    (how_many, ()), (how_many, (1,)), (tellings, ()), (tellings, (1,)), (is_telling, ([],)),
+    (questions, ()), (is_plan, (("sure", []),)), (are_bars, (0, [])),
+    (above, ([], ("a", 1))), (all_above, ([], ("a", 1))), (under, ([], ("a", 1))), (forest, ([],)),
+    (stands_above, (("a", 1), ("a", 1))),
+)
+
+# Those that would go on to refuse an ask or a job that is not known: NoRow and Clash go ahead.
+REFUSED_LATER = (
+    (standing, (("a", 9), ("a", 9))), (is_standing, (("a", 9), ("a", 9), ("never", None, None))),
+    (stands_above, (("a", 9), ("a", 9))),
 )
 
 GOOD = [ask(1, 1, 50, 60)]
@@ -25,14 +40,14 @@ GOOD = [ask(1, 1, 50, 60)]
 
 class Refused(unittest.TestCase):
     def assert_no_row(self, rows, number):
-        for tell, more in TOLD:
+        for tell, more in TOLD + REFUSED_LATER:
             with self.subTest(tell=tell.__name__, rows=rows):
                 with self.assertRaises(NoRow) as caught:
                     tell(TOWN, rows, *more)
                 self.assertEqual(caught.exception.number, number)
 
     def assert_clash(self, rows, first, second):
-        for tell, more in TOLD:
+        for tell, more in TOLD + REFUSED_LATER:
             with self.subTest(tell=tell.__name__, rows=rows):
                 with self.assertRaises(Clash) as caught:
                     tell(TOWN, rows, *more)
@@ -42,6 +57,18 @@ class Refused(unittest.TestCase):
         for rows in (GOOD, GOOD * 3, GOOD * 200, GOOD + [all_row(2, 2, house="b")]):
             for tell, more in TOLD:
                 tell(TOWN, rows, *more)
+
+    def test_a_book_is_not_refused_so_where_more_is(self):
+        for rows in (GOOD, GOOD * 3):
+            for tell, more in REFUSED_LATER:
+                with self.assertRaises((NoAsk, NoJob)):
+                    tell(TOWN, rows, *more)
+
+    def test_no_row_and_clash_ahead_of_short(self):
+        none = [ask(0, 0, 10, 20), all_row(1, 1), all_row(0, 0, house="b"), all_row(0, 0, house="c")]
+        self.assertEqual(whole(TOWN, none)[0], "short")
+        self.assert_no_row(none + [None], 4)
+        self.assert_clash(none + [all_row(1, 2)], 1, 4)
 
     def test_the_first_that_is_no_row(self):
         self.assert_no_row([None], 0)
@@ -79,7 +106,7 @@ class Refused(unittest.TestCase):
     def test_what_is_refused_changes_nothing(self):
         for rows in ([job(0, 0, 1), job(0, 0, 2)], GOOD + [["job", [0]], None]):
             before = [list(row) if isinstance(row, list) else row for row in rows]
-            for tell, more in TOLD:
+            for tell, more in TOLD + REFUSED_LATER:
                 with self.assertRaises((NoRow, Clash)):
                     tell(TOWN, rows, *more)
                 self.assertEqual(rows, before)

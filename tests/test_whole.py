@@ -7,38 +7,8 @@ import unittest
 
 from gapcalls.whole import is_short, is_whole, whole
 from reference import Reference, some_book, some_true_book
-from samples import TOWN, all_row, ask, job
-
-PAIR = (("a", "b"), ("a",))
-SIX = tuple("abcdef")
-
-# Seconds; a search through all tellings of the long books below would take years.
-LITTLE_TIME = 5
-
-
-def pairs_of(*numbers):
-    """Pairs of asks of a and jobs of b."""
-    return [(("a", one), ("b", other)) for one, other in numbers]
-
-
-def asks(*numbers):
-    return [("a", number) for number in numbers]
-
-
-def jobs(*numbers):
-    return [("b", number) for number in numbers]
-
-
-def asked(*spans):
-    """The house a, which is a gate in PAIR, did one job and asked b from out to back, and no more."""
-    rows = [ask(number, 0, out, back) for number, (out, back) in enumerate(spans)]
-    return rows + [job(0, -100, 1000), all_row(len(spans), 1)]
-
-
-def done(*spans):
-    """The house b did these jobs, asked nothing, and no more."""
-    rows = [job(number, begin, end, house="b") for number, (begin, end) in enumerate(spans)]
-    return rows + [all_row(0, len(spans), house="b")]
+from samples import (
+    LITTLE_TIME, PAIR, SIX, TOWN, all_row, ask, asked, asks, done, job, jobs, pairs_of, ring_of_six)
 
 
 class Judging(unittest.TestCase):
@@ -480,19 +450,9 @@ class LongBooks(Judging):
         self.assertLess(time.monotonic() - start, LITTLE_TIME)
         return self.assert_told(town, rows)
 
-    def ring(self, out, back, begin, end):
-        """Six houses, each of fifteen jobs and fifteen asks of the next house, all told."""
-        rows = []
-        for at, house in enumerate(SIX):
-            following = SIX[(at + 1) % 6]
-            rows += [job(number, begin(number), end(number), house=house) for number in range(15)]
-            rows += [ask(number, 0, out(number), back(number), house=house, asked=following) for number in range(15)]
-            rows.append(all_row(15, 15, house=house))
-        return rows
-
     def test_200_rows(self):
         # The first job of each house runs around all asks, so none led to it: there are fourteen jobs for fifteen asks.
-        rows = self.ring(lambda k: 10, lambda k: 20, lambda k: 10 if k else 0, lambda k: 20 if k else 90)
+        rows = ring_of_six(lambda k: 10, lambda k: 20, lambda k: 10 if k else 0, lambda k: 20 if k else 90)
         closed = rows + rows[:200 - len(rows)]
         self.assertEqual(len(closed), 200)
         self.assertEqual(self.assert_soon((SIX, SIX), closed)[0], "short")
