@@ -108,3 +108,15 @@ def must(town, rows):
 def may(town, rows):
     """All pairs of known asks and known jobs that must or may be, rising."""
     return likely_pairs(Outlook(gaps_of(town, rows)))
+
+
+def who_led(town, rows, job):
+    """The asks that must or may have led to a known job, rising; None behind them where perhaps no known one did."""
+    gaps = gaps_of(town, rows)
+    need_known_job(gaps, job)
+    outlook = Outlook(gaps)
+    asks = [ask for ask, other in likely_pairs(outlook) if other == job]
+    chart = outlook.chart
+    for ask in asks:
+        chart = barred(chart, ask, job)
+    return asks + [None] if pair_up(chart)[0] == "whole" else asks

@@ -4,12 +4,14 @@ import unittest
 
 from gapcalls.chances import may_lead, more_asks, more_jobs
 from gapcalls.clash import need_book
+from gapcalls.clocks import greatest, in_time, is_ring, shifts
 from gapcalls.errors import Clash, NoAsk, NoJob, NoRow
 from gapcalls.gaps import (
     ask_span, job_span, known_asks, known_jobs, lost_asks, lost_jobs, more_from, open_houses)
 from gapcalls.questions import are_bars, is_plan, questions
 from gapcalls.standing import is_standing, may, must, standing
 from gapcalls.tellings import how_many, is_telling, tellings
+from gapcalls.texts import show_book
 from gapcalls.trees import above, all_above, forest, stands_above, under
 from gapcalls.whole import is_short, is_whole, whole
 from samples import JOB, ODD_THINGS, TOWN, all_row, ask, job
@@ -27,6 +29,9 @@ TOLD = (
     (questions, ()), (is_plan, (("sure", []),)), (are_bars, (0, [])),
     (above, ([], ("a", 1))), (all_above, ([], ("a", 1))), (under, ([], ("a", 1))), (forest, ([],)),
     (stands_above, (("a", 1), ("a", 1))),
+    (in_time, ([], {"a": 0, "b": 0, "c": 0})), (in_time, ([], {})), (is_ring, ([], [])), (shifts, ([],)),
+    (greatest, ([], "a", "b")), (greatest, ([], "a", "a")),
+    (show_book, ()),
 )
 
 # Those that would go on to refuse an ask or a job that is not known: NoRow and Clash go ahead.
