@@ -46,10 +46,12 @@ def without_thing(chances, keys, thing):
     return fewer
 
 
-def barred(chart, ask, job):
-    """The chart, were this ask barred from leading to this job."""
-    jobs_of = without_thing(chart.jobs_of, [ask], job)
-    asks_of = without_thing(chart.asks_of, [job], ask)
+def barred(chart, pairs):
+    """The chart, were in each of the pairs the ask barred from leading to the job."""
+    jobs_of, asks_of = chart.jobs_of, chart.asks_of
+    for ask, job in pairs:
+        jobs_of = without_thing(jobs_of, [ask], job)
+        asks_of = without_thing(asks_of, [job], ask)
     return Chart(jobs_of, asks_of, chart.tied_asks, chart.tied_jobs)
 
 

@@ -27,7 +27,7 @@ def answer_order(answer):
     return (answer is None, answer if answer is not None else ())
 
 
-def split(asking, some, job):
+def groups_of(asking, some, job):
     """A list of (answer, those of some that give it) of each answer that some of them give."""
     answers = asking.answers[job]
     groups = {}
@@ -40,7 +40,7 @@ def jobs_that_differ(asking):
     """Known jobs that tell some tellings apart, of those that tell the same ones apart the first alone."""
     first = {}
     for job in asking.answers:
-        groups = tuple(sorted([group for answer, group in split(asking, asking.everything, job)]))
+        groups = tuple(sorted([group for answer, group in groups_of(asking, asking.everything, job)]))
         if len(groups) > 1 and groups not in first:
             first[groups] = job
     return list(first.values())
@@ -48,7 +48,7 @@ def jobs_that_differ(asking):
 
 def hardest(asking, some, job):
     """The need of the answer behind which the most questions are needed, and those of some that give it."""
-    return max([(need_and_job(asking, group)[0], group) for answer, group in split(asking, some, job)])
+    return max([(need_and_job(asking, group)[0], group) for answer, group in groups_of(asking, some, job)])
 
 
 def need_and_job(asking, some):
@@ -57,7 +57,7 @@ def need_and_job(asking, some):
         return (0, None)
     if some not in asking.best:
         # No two tellings give the same answers for all known jobs, so one of these jobs tells some of them apart.
-        jobs = [job for job in asking.useful if len(split(asking, some, job)) > 1]
+        jobs = [job for job in asking.useful if len(groups_of(asking, some, job)) > 1]
         asking.best[some] = min([(1 + hardest(asking, some, job)[0], job) for job in jobs])
     return asking.best[some]
 
@@ -66,7 +66,7 @@ def plan_for(asking, some):
     number, job = need_and_job(asking, some)
     if job is None:
         return ("sure", list(asking.told[some[0]]))
-    return ("who", job, [(answer, plan_for(asking, group)) for answer, group in split(asking, some, job)])
+    return ("who", job, [(answer, plan_for(asking, group)) for answer, group in groups_of(asking, some, job)])
 
 
 def bars_for(asking):
@@ -99,7 +99,7 @@ def groups_asked(asking, some, plan):
     word, job, rows = plan
     if word != "who" or job not in asking.answers:
         return None
-    groups = split(asking, some, job)
+    groups = groups_of(asking, some, job)
     if [answer for answer, inner in rows] != [answer for answer, group in groups]:
         return None
     return [(group, inner) for (answer, group), (answer_again, inner) in zip(groups, rows)]
@@ -133,7 +133,7 @@ def is_need_shown(asking, some, need, most):
         return False
     if need > 1:
         for job in asking.answers:
-            groups = split(asking, some, job)
+            groups = groups_of(asking, some, job)
             if not any(group in most and most[group] >= need - 1 for answer, group in groups):
                 return False
     return True

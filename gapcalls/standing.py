@@ -13,8 +13,12 @@ class Outlook:
         self.gaps = gaps
         self.chart = chart_of(gaps)
         self.pairs = need_whole(self.chart)
-        chances = [(ask, job) for ask in gaps.ask_rows for job in self.chart.jobs_of[ask] if job in gaps.job_rows]
-        self.undecided = loose(self.chart, self.pairs, chances)
+        self.undecided = loose(self.chart, self.pairs, known_chances(gaps, self.chart))
+
+
+def known_chances(gaps, chart):
+    """All pairs of the chart of known asks and known jobs."""
+    return [(ask, job) for ask in gaps.ask_rows for job in chart.jobs_of[ask] if job in gaps.job_rows]
 
 
 def known_pairs(gaps, pairs):
@@ -61,14 +65,14 @@ def standing(town, rows, ask, job):
     others = pair_up(put(chart, ask, job))
     if others[0] == "short":
         return ("never", others[1], others[2])
-    lacking = pair_up(barred(chart, ask, job))
+    lacking = pair_up(barred(chart, [(ask, job)]))
     if lacking[0] == "short":
         return ("must", lacking[1], lacking[2])
     return ("may", sorted(others[1] + [(ask, job)]), lacking[1])
 
 
 def is_must_shown(chart, ask, job, side, some):
-    return isinstance(some, list) and are_short(barred(chart, ask, job), side, some)
+    return isinstance(some, list) and are_short(barred(chart, [(ask, job)]), side, some)
 
 
 def is_may_shown(chart, ask, job, having, lacking):
@@ -115,8 +119,6 @@ def who_led(town, rows, job):
     gaps = gaps_of(town, rows)
     need_known_job(gaps, job)
     outlook = Outlook(gaps)
-    asks = [ask for ask, other in likely_pairs(outlook) if other == job]
-    chart = outlook.chart
-    for ask in asks:
-        chart = barred(chart, ask, job)
-    return asks + [None] if pair_up(chart)[0] == "whole" else asks
+    pairs = [pair for pair in likely_pairs(outlook) if pair[1] == job]
+    asks = [ask for ask, other in pairs]
+    return asks + [None] if pair_up(barred(outlook.chart, pairs))[0] == "whole" else asks

@@ -3,8 +3,8 @@
 from gapcalls.errors import TooMany
 from gapcalls.exchange import loose
 from gapcalls.gaps import gaps_of
-from gapcalls.pairing import Chart, are_pairs_of, barred, pair_up, pair_up_from, put, turned
-from gapcalls.standing import Outlook, known_pairs, whole_chart_of
+from gapcalls.pairing import are_pairs_of, barred, pair_up, pair_up_from, put
+from gapcalls.standing import Outlook, known_chances, known_pairs, whole_chart_of
 
 MOST_TELLINGS = 200
 
@@ -25,15 +25,20 @@ class Branch:
 def branch_with(branch, ask, job, chances):
     chart = put(branch.chart, ask, job)
     pairs = [pair for pair in branch.pairs if pair[0] != ask and pair[1] != job]
-    chances = [pair for pair in chances if pair[0] != ask and pair[1] != job]
-    return Branch(chart, pair_up_from(chart, pairs)[1], branch.held + [(ask, job)], chances)
+    others = [pair for pair in chances if pair[0] != ask and pair[1] != job]
+    return Branch(chart, pair_up_from(chart, pairs)[1], branch.held + [(ask, job)], others)
 
 
-def branch_without(branch, ask, job, chances):
-    chart = barred(branch.chart, ask, job)
-    pairs = [pair for pair in branch.pairs if pair != (ask, job)]
-    chances = [pair for pair in chances if pair != (ask, job)]
-    return Branch(chart, pair_up_from(chart, pairs)[1], branch.held, chances)
+def branches_of(branch, chances):
+    """The branch by what one ask led to: each of the jobs that it may have, or none of them."""
+    ask = chances[0][0]
+    own = [pair for pair in chances if pair[0] == ask]
+    branches = [branch_with(branch, ask, job, chances) for one, job in own]
+    chart = barred(branch.chart, own)
+    told = pair_up_from(chart, [pair for pair in branch.pairs if pair not in own])
+    if told[0] == "whole":
+        branches.append(Branch(chart, told[1], branch.held, [pair for pair in chances if pair[0] != ask]))
+    return branches
 
 
 def all_of(gaps, limit):
@@ -45,9 +50,7 @@ def all_of(gaps, limit):
         branch = branches.pop()
         chances = loose(branch.chart, branch.pairs, branch.chances) if branch.chances else []
         if chances:
-            ask, job = chances[0]
-            branches.append(branch_with(branch, ask, job, chances))
-            branches.append(branch_without(branch, ask, job, chances))
+            branches.extend(branches_of(branch, chances))
         else:
             told.append(sorted(known_pairs(gaps, branch.held + branch.pairs)))
         # Each branch that is left has a telling of its own, so none of them need be gone through.
@@ -66,21 +69,13 @@ def tellings(town, rows, limit=MOST_TELLINGS):
     return all_of(gaps_of(town, rows), limit)
 
 
-def chart_of_lost(gaps, chart):
-    """The chart, were each known ask barred from leading to each known job."""
-    jobs_of = {ask: chart.jobs_of[ask] for ask in chart.jobs_of}
-    for ask in gaps.ask_rows:
-        jobs_of[ask] = [job for job in chart.jobs_of[ask] if job not in gaps.job_rows]
-    return Chart(jobs_of, turned(jobs_of, gaps.jobs), chart.tied_asks, chart.tied_jobs)
-
-
 def is_telling(town, rows, pairs):
     """Whether a list of pairs of asks and jobs is a telling."""
     gaps = gaps_of(town, rows)
     chart = whole_chart_of(gaps)
     if not are_pairs_of(chart, pairs) or known_pairs(gaps, pairs) != pairs:
         return False
-    others = chart_of_lost(gaps, chart)
+    others = barred(chart, known_chances(gaps, chart))
     for ask, job in pairs:
         others = put(others, ask, job)
     return pair_up(others)[0] == "whole"

@@ -323,8 +323,11 @@ def some_tight_book(chance):
         rows, _ = rows_of_history(houses, jobs, asks)
         kept = chance.choice((0.7, 0.9, 1))
         rows = [row for row in rows if chance.random() < kept]
+        # Where all houses are open few asks must have led to a job, but jobs ahead of late asks must have come of one.
+        if chance.random() < 0.4:
+            rows = [row for row in rows if row[0] != "all"]
         chance.shuffle(rows)
-        return (houses, gates if chance.random() < 0.8 else gates[1:]), rows
+        return (houses, gates if chance.random() < 0.6 else gates[1:]), rows
 
 
 def small_books(seed, count, most_tellings=None):

@@ -315,7 +315,7 @@ class LongBooks(unittest.TestCase):
             keeper.come(row)
             told_by(keeper)
             keeper.brought()
-        self.assertLess(time.monotonic() - start, 2 * LITTLE_TIME)
+        self.assertLess(time.monotonic() - start, LITTLE_TIME)
         self.assertEqual(told_by(keeper), told_of(town, rows))
         return keeper
 

@@ -25,6 +25,13 @@ BARRED_NAMES = set(
     "copyright credits delattr dir eval exec exit gc getattr globals hasattr help id importlib license locals "
     "methodcaller os quit setattr vars sys".split())
 
+ALLOWED_METHODS = set(
+    "append clear copy count endswith extend find get index insert isalnum isalpha isdigit islower isspace isupper "
+    "items join keys ljust lower lstrip partition pop remove replace reverse rfind rjust rpartition rsplit rstrip setdefault "
+    "split splitlines startswith strip update upper values zfill bit_length title capitalize swapcase casefold center "
+    "expandtabs removeprefix removesuffix rindex isascii isdecimal isnumeric istitle isidentifier isprintable "
+    "sort add discard".split())
+
 BARRED_NODES = (
     ast.Global, ast.AsyncFunctionDef, ast.AsyncFor, ast.AsyncWith, ast.Await, ast.Div)
 
@@ -140,6 +147,52 @@ class Language(unittest.TestCase):
                     if bound[:2] != "__":
                         self.assertRegex(bound, r"\A[A-Za-z][A-Za-z0-9_]*\Z")
                         self.assertFalse(hasattr(builtins, bound))
+
+    def test_l15_no_local_name_of_an_import_or_a_class(self):
+        for name, tree in trees():
+            taken = {node.name for node in tree.body if isinstance(node, ast.ClassDef)}
+            taken |= {alias.asname or alias.name for node in imports_of(tree) for alias in node.names}
+            for function in [node for node in ast.walk(tree) if isinstance(node, (ast.FunctionDef, ast.Lambda))]:
+                inner = [part for part in ast.walk(function) if part != function]
+                bound = {part.arg for part in inner if isinstance(part, ast.arg)}
+                bound |= {part.id for part in inner if isinstance(part, ast.Name) and isinstance(part.ctx, ast.Store)}
+                bound |= {part.name for part in inner if isinstance(part, ast.FunctionDef)}
+                with self.subTest(file=name, line=function.lineno):
+                    self.assertEqual(bound & taken, set())
+
+    def test_l25_methods(self):
+        own = {item.name for _, node in nodes_of(ast.ClassDef) for item in node.body
+               if isinstance(item, ast.FunctionDef)}
+        for name, node in nodes_of(ast.Call):
+            if isinstance(node.func, ast.Attribute):
+                with self.subTest(file=name, line=node.lineno):
+                    self.assertIn(node.func.attr, ALLOWED_METHODS | own)
+
+    def test_l22_keywords_of_builtins(self):
+        for name, node in nodes_of(ast.Call):
+            if isinstance(node.func, ast.Name) and hasattr(builtins, node.func.id):
+                with self.subTest(file=name, line=node.lineno):
+                    self.assertLessEqual({word.arg for word in node.keywords}, {"key", "reverse", "default", "start"})
+
+    def test_l7_generator_expressions_stand_directly_in_what_takes_them(self):
+        takers = [node.args for _, node in nodes_of(ast.Call) if ast.unparse(node.func) in (
+            "list", "tuple", "dict", "sorted", "sum", "min", "max", "any", "all")]
+        taken = [argument for arguments in takers for argument in arguments]
+        for name, tree in trees():
+            self.assertLessEqual(
+                {ast.unparse(node) for node in ast.walk(tree) if isinstance(node, ast.GeneratorExp)},
+                {ast.unparse(argument) for argument in taken})
+
+    def test_l24_sets_stand_where_they_may(self):
+        for name, tree in trees():
+            around = {part: node for node in ast.walk(tree) for part in ast.iter_child_nodes(node)}
+            for node in ast.walk(tree):
+                if isinstance(node, (ast.SetComp, ast.Set)):
+                    outer = around[node]
+                    while isinstance(outer, ast.BinOp):
+                        outer = around[outer]
+                    with self.subTest(file=name, line=node.lineno):
+                        self.assertTrue(isinstance(outer, ast.Compare) or ast.unparse(outer.func) in ("len", "sorted"))
 
     def test_l17_words(self):
         for name, path in files():

@@ -274,6 +274,11 @@ class Lists(unittest.TestCase):
         rows = asked((10, 20)) + done((12, 18), (12, 18))
         self.assertEqual((must(BOTH, rows), may(BOTH, rows)), ([], pairs_of((0, 0), (0, 1))))
 
+    def test_a_way_to_an_ask_that_need_not_have_the_job_that_it_has(self):
+        # b.0 must have come of one of two asks, neither of which must have led to it.
+        rows = asked((10, 100), (12, 100)) + [job(0, 12, 90, house="b"), ask(0, 0, 30, 40, house="b", asked="b")]
+        self.assertEqual((must(PAIR, rows), may(PAIR, rows)), ([], pairs_of((0, 0), (1, 0))))
+
     def test_rows_several_times_and_in_any_order(self):
         for rows in (SOME[::-1], SOME * 3, SOME + SOME[::-1]):
             self.assertEqual((must(PAIR, rows), may(PAIR, rows)), (must(PAIR, SOME), may(PAIR, SOME)))
